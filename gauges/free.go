@@ -6,6 +6,7 @@ import (
 	"sync"
 
 	"abacus/api"
+	"abacus/lists"
 )
 
 // exact is the amount up to which all whole numbers are floats, so that their sums are not rounded.
@@ -14,7 +15,7 @@ const exact = 1 << 53
 // Free does lists of operations, a goroutine a list: what the gauge has at the end, where that hangs on no order.
 func Free(start float64, l [][]api.GaugeOp) (float64, api.Errno) {
 	switch {
-	case tooMany(l):
+	case lists.TooMany(l):
 		return 0, api.ErrMany
 	case !anyOrder(start, slices.Concat(l...)):
 		return 0, api.ErrMix
@@ -33,20 +34,6 @@ func Free(start float64, l [][]api.GaugeOp) (float64, api.Errno) {
 	}
 	all.Wait()
 	return g.Get(), api.OK
-}
-
-func tooMany(l [][]api.GaugeOp) bool {
-	if len(l) > api.MaxWorkers {
-		return true
-	}
-	left := api.MaxSteps
-	for _, list := range l {
-		if len(list) > left {
-			return true
-		}
-		left -= len(list)
-	}
-	return false
 }
 
 // anyOrder tells whether a gauge that has start comes to the same by these operations, in whatever order.

@@ -5,6 +5,7 @@ import (
 	"sync"
 
 	"abacus/api"
+	"abacus/lists"
 )
 
 // Free has goroutines add by a plan, a list of numbers a worker, while another one takes so many times: all that was taken, and what is left.
@@ -42,24 +43,10 @@ func check(n int, plan [][]uint64, times int) api.Errno {
 	switch {
 	case n < 1 || n > api.MaxWorkers || times < 0 || times > api.MaxSteps:
 		return api.ErrRange
-	case tooMany(plan):
+	case lists.TooMany(plan):
 		return api.ErrMany
 	}
 	return api.OK
-}
-
-func tooMany(plan [][]uint64) bool {
-	if len(plan) > api.MaxWorkers {
-		return true
-	}
-	left := api.MaxSteps
-	for _, numbers := range plan {
-		if len(numbers) > left {
-			return true
-		}
-		left -= len(numbers)
-	}
-	return false
 }
 
 // total is the sum of all numbers of a plan, and whether it is below 2^64.
