@@ -6,6 +6,7 @@ import (
 	"unicode/utf8"
 
 	"abacus/api"
+	"abacus/braces"
 	"abacus/labels"
 )
 
@@ -85,28 +86,12 @@ func cutSeries(line string) (string, []api.Label, string, bool) {
 	if !strings.HasPrefix(rest, "{") {
 		return name, nil, rest, true
 	}
-	n := braced(rest)
-	set, why, _ := labels.Parse(rest[:n])
+	n := braces.End(rest)
+	set, why, _ := labels.Parse(rest[:n]) // where they do not end, there is nothing, which is no set
 	if why != api.OK {
 		return "", nil, "", false
 	}
 	return name, set, rest[n:], true
-}
-
-// braced is how many bytes a text has up to the first } that stands in no quotes: all, if there is none.
-func braced(s string) int {
-	quoted := false
-	for i := 0; i < len(s); i++ {
-		switch {
-		case s[i] == '"':
-			quoted = !quoted
-		case quoted && s[i] == '\\':
-			i++
-		case !quoted && s[i] == '}':
-			return i + 1
-		}
-	}
-	return len(s)
 }
 
 // parseTime reads a moment: a text has one way for each.

@@ -102,3 +102,18 @@ func TestOfEndsAndBeginsAnew(t *testing.T) {
 		}
 	}
 }
+
+func TestByAnyOrder(t *testing.T) {
+	falling := func(x int, y *item) int { return y.n - x }
+	var words []string
+	for x, y := range pairs.By([]int{9, 7, 2}, []*item{{"a", 8}, {"b", 7}, {"c", 1}}, falling) {
+		key := "none"
+		if y != nil {
+			key = y.key
+		}
+		words = append(words, fmt.Sprintf("%d %s", x, key))
+	}
+	if got := strings.Join(words, " "); got != "9 none 0 a 7 b 2 none 0 c" {
+		t.Error("falling lists:", got)
+	}
+}
