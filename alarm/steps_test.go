@@ -173,7 +173,7 @@ w {a=~"*",b!="1"} >= 5 keep 10s`)
 
 func TestSetsInOrder(t *testing.T) { // 26.3: by labels.Compare, not by their texts
 	x := parsed(t, "hot {} > 5")
-	rising := [][]api.Label{nil, of("A", "1"), of("a", "1"), of("a", "1", "b", "1"), of("a", "1!"), of("a", "2"), of("a1", "1"), of("b", "1"), of("é"[:0]+"z", "1")}
+	rising := [][]api.Label{nil, of("A", "1"), of("a", "1"), of("a", "1", "b", "1"), of("a", "1!"), of("a", "2"), of("a1", "1"), of("b", "1"), of("z", "1")}
 	if !slices.IsSortedFunc(rising, labels.Compare) {
 		t.Fatal("the test's sets do not rise")
 	}

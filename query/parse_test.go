@@ -379,17 +379,9 @@ func TestReadMemory(t *testing.T) { // 25.6: what is read is new memory
 		for i := range e.Kids {
 			walk(e.Kids[i])
 		}
-		for _, l := range [][]string{e.Names} {
-			for i := range l[:cap(l)] {
-				l[:cap(l)][i] = "changed"
-			}
-		}
-		for i := range e.Match[:cap(e.Match)] {
-			e.Match[:cap(e.Match)][i] = api.Match{}
-		}
-		for i := range e.Kids[:cap(e.Kids)] {
-			e.Kids[:cap(e.Kids)][i] = api.Expr{}
-		}
+		clear(e.Names[:cap(e.Names)])
+		clear(e.Match[:cap(e.Match)])
+		clear(e.Kids[:cap(e.Kids)])
 	}
 	walk(e)
 	if text, why := query.Print(again); text != `sum by (bb,cc) (aaaa{dd="ee"}) + rate(ff[5m])` || why != api.OK {
